@@ -117,3 +117,17 @@ class Cache:
         while not self.failed and len(self.dirty) > 0:
             self.oldest_goes_out()
         return not self.failed
+
+    def forget(self, place):
+        """The place's clean block and its dirty ones go, of all stretches."""
+        self.clean.pop(place, None)
+        leaving = [key for key in self.dirty if key[1] == place]
+        for key in leaving:
+            self.dirty.pop(key)
+
+    def told(self):
+        """How many are clean, their places, and each dirty one's stretch and place, all in order."""
+        row = [len(self.clean)] + list(self.clean)
+        for key in self.dirty:
+            row.extend([key[0], key[1]])
+        return row

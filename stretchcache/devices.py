@@ -90,6 +90,10 @@ class Devices:
             self.script.setdefault(entry[0], entry[1:])
         self.asks = 0
 
+    def has_block(self, number, k):
+        """Whether there's such a device, and it has a block k."""
+        return number < len(self.each) and self.each[number].has_block(k)
+
     def power_off(self, mask, count):
         """The power goes, for all devices."""
         for device in self.each:

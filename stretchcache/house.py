@@ -4,7 +4,7 @@ from stretchcache.blocks import is_block, trimmed
 from stretchcache.cache import Cache
 from stretchcache.calls import parsed
 from stretchcache.devices import Devices, PowerGone
-from stretchcache.pool import Pool, is_pool
+from stretchcache.pool import OUT, Pool, is_pool
 from stretchcache.sums import Sums
 
 DONE = 0
@@ -13,8 +13,6 @@ NOT_FOUND = -2
 NOT_WRITTEN = -5
 NO_CACHE = -9
 POWER_WENT = -100
-
-BEGIN = 0
 
 
 def done_or_not_written(done):
@@ -51,7 +49,69 @@ def answer_sync(cache, call):
     return done_or_not_written(cache.sync())
 
 
-CACHE_CALLS = {1: answer_read, 2: answer_write, 3: answer_barrier, 4: answer_sync}
+def answer_forget(cache, call):
+    """forget: 0, whether anything was kept of the place or not."""
+    cache.forget(call.numbers[0])
+    return [DONE]
+
+
+def answer_told(cache, call):
+    """told: how many are clean, then their places, then each dirty one's stretch and place."""
+    return cache.told()
+
+
+def answer_state(cache, call):
+    """state: 0, when the pool counts the device as the call says."""
+    number = call.numbers[0]
+    state = call.numbers[1]
+    if state > OUT or not cache.pool.has_device(number):
+        return [NOT_ALLOWED]
+    cache.pool.count_as(number, state)
+    return [DONE]
+
+
+CACHE_CALLS = {
+    1: answer_read,
+    2: answer_write,
+    3: answer_barrier,
+    4: answer_sync,
+    5: answer_forget,
+    6: answer_told,
+    8: answer_state,
+}
+
+
+def answer_begin(house, call):
+    """begin: a new pool, and a new cache over it; how many places the pool has."""
+    block_count = call.numbers[0]
+    mirrors = call.lists
+    if not is_pool(block_count, mirrors):
+        return [NOT_ALLOWED]
+    house.cache = Cache(Pool(house.devices, house.sums, block_count, mirrors))
+    return [house.cache.pool.place_count]
+
+
+def answer_sum(house, call):
+    """sum: 0, then the block's sum there, whether there's such a place or not."""
+    data = call.lists[0]
+    if not is_block(data):
+        return [NOT_ALLOWED]
+    return [DONE, house.sums.at_place(call.numbers[0], data)]
+
+
+def answer_block(house, call):
+    """block: how many bytes the block has now, then these, then those that are sure."""
+    number = call.numbers[0]
+    k = call.numbers[1]
+    if not house.devices.has_block(number, k):
+        return [NOT_ALLOWED]
+    device = house.devices.each[number]
+    now = device.block_now(k)
+    return [len(now)] + now + device.sure_block(k)
+
+
+# In a table of their own, because they're answered without a cache, too.
+HOUSE_CALLS = {0: answer_begin, 7: answer_sum, 9: answer_block}
 
 
 class House:
@@ -64,8 +124,8 @@ class House:
 
     def answer(self, call):
         """What the call answers. The power may go in each that asks devices."""
-        if call.number == BEGIN:
-            return self.begin(call.numbers[0], call.lists)
+        if call.number in HOUSE_CALLS:
+            return HOUSE_CALLS[call.number](self, call)
         if self.cache is None:
             return [NO_CACHE]
         try:
@@ -73,14 +133,6 @@ class House:
         except PowerGone:
             self.cache = None
             return [POWER_WENT]
-
-    def begin(self, block_count, mirrors):
-        """begin: a new pool, and a new cache over it; how many places the pool has."""
-        if not is_pool(block_count, mirrors):
-            return [NOT_ALLOWED]
-        pool = Pool(self.devices, self.sums, block_count, mirrors)
-        self.cache = Cache(pool)
-        return [pool.place_count]
 
 
 def answers(calls):

@@ -40,6 +40,14 @@ class Pool:
             for number in mirror:
                 self.states[number] = GOOD
 
+    def has_device(self, number):
+        """Whether one of its mirrors has the device."""
+        return number in self.states
+
+    def count_as(self, number, state):
+        """Counts the device as good, being filled or out from now on."""
+        self.states[number] = state
+
     def is_place(self, place):
         """Whether there's such a place."""
         return place < self.place_count
@@ -56,13 +64,13 @@ class Pool:
         """Puts the block to the device: whether it was given it. One that fails twice is out."""
         if self.devices.write(number, k, block) or self.devices.write(number, k, block):
             return True
-        self.states[number] = OUT
+        self.count_as(number, OUT)
         return False
 
     def flush(self, number):
         """Flushes the device. One that fails twice is out."""
         if not self.devices.flush(number) and not self.devices.flush(number):
-            self.states[number] = OUT
+            self.count_as(number, OUT)
 
     def read(self, place, wanted):
         """The block at the place that has the sum wanted; None if no good device answers it."""

@@ -44,6 +44,27 @@ def sync():
     return [4, 0, 0]
 
 
+def forget(place):
+    return [5, 1, place, 0]
+
+
+def tell():
+    return [6, 0, 0]
+
+
+def total(place, data):
+    """The call sum."""
+    return [7, 1, place, *lists([data])]
+
+
+def state(number, s):
+    return [8, 2, number, s, 0]
+
+
+def block(number, k):
+    return [9, 2, number, k, 0]
+
+
 def writes(places, mark=1):
     """A write for each place, of a block that tells the place and the mark."""
     return [write(place, marked(place, mark)) for place in places]
@@ -56,6 +77,16 @@ def marked(place, mark=1):
 def found(data):
     """What a read answers that finds this block (told without the zeros at its end)."""
     return [len(data), *data]
+
+
+def kept(clean, *dirty):
+    """What told answers for these clean places, and these dirty stretches with their places."""
+    return [len(clean), *clean, *flat(dirty)]
+
+
+def held(now, sure):
+    """What block answers for a block that has these bytes now, and these that are sure."""
+    return [len(now), *now, *sure]
 
 
 def flat(calls):

@@ -4,7 +4,7 @@ import unittest
 
 from stretchcache.pool import BEING_FILLED, GOOD, OUT
 from tests.lines import (ALL, FAIL, GOES, OFF, ROT, SICK, Watched, begin, devices, found, marked, read, read_sum, run,
-                         sum_at, sync, write, writes)
+                         state, sum_at, sync, write, writes)
 
 
 class Kept(unittest.TestCase):
@@ -102,7 +102,7 @@ class FromThePool(unittest.TestCase):
 
     def test_device_that_is_being_filled_is_not_read(self):
         line = self.filled()
-        line.house.cache.pool.states[0] = BEING_FILLED
+        line.ask(state(0, BEING_FILLED))
         line.ask(read(3, [7]), read(2, [1]))
         self.assertEqual(line.asks(), [("read", 1, 11), ("read", 1, 10), ("read", 2, 10)])
 

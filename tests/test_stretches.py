@@ -3,8 +3,8 @@
 import unittest
 
 from stretchcache.pool import BEING_FILLED, GOOD, OUT
-from tests.lines import (ALL, FAIL, GOES, OFF, TAKEN, Watched, barrier, begin, devices, found, marked, read, run, sync,
-                         write, writes)
+from tests.lines import (ALL, FAIL, GOES, OFF, TAKEN, Watched, barrier, begin, devices, found, marked, read, run, state,
+                         sync, write, writes)
 
 
 class Barrier(unittest.TestCase):
@@ -140,31 +140,31 @@ class Failing(unittest.TestCase):
     def test_device_that_is_being_filled_is_put_the_block_but_does_not_count(self):
         line = Watched()
         line.ask(begin(16, [0, 1]), write(0, [1]))
-        line.house.cache.pool.states[0] = BEING_FILLED
+        line.ask(state(0, BEING_FILLED))
         self.assertEqual(line.ask(sync()), [[0]])
         self.assertEqual([ask[:2] for ask in line.asks()], [("write", 0), ("write", 1), ("flush", 0), ("flush", 1)])
-        line.house.cache.pool.states[1] = BEING_FILLED
+        line.ask(state(1, BEING_FILLED))
         self.assertEqual(line.ask(write(1, [1]), sync()), [[0], [-5]])
         self.assertEqual([ask[:2] for ask in line.asks()], [("write", 0), ("write", 1)])
 
     def test_device_that_is_being_filled_behind_a_good_one(self):
         line = Watched()
         line.ask(begin(16, [0, 1]), write(0, [1]))
-        line.house.cache.pool.states[1] = BEING_FILLED
+        line.ask(state(1, BEING_FILLED))
         self.assertEqual(line.ask(sync()), [[0]])
         self.assertEqual([ask[:2] for ask in line.asks()], [("write", 0), ("write", 1), ("flush", 0), ("flush", 1)])
 
     def test_device_that_is_being_filled_goes_out_too(self):
         line = Watched([0, FAIL], [1, FAIL])
         line.ask(begin(16, [0, 1]), write(0, [1]))
-        line.house.cache.pool.states[0] = BEING_FILLED
+        line.ask(state(0, BEING_FILLED))
         self.assertEqual(line.ask(sync()), [[0]])
         self.assertEqual(line.state(0), OUT)
 
     def test_mirror_with_one_that_is_being_filled_alone_fails_the_flush(self):
         line = Watched()
         line.ask(begin(16, [0], [1]), write(0, [1]))
-        line.house.cache.pool.states[1] = BEING_FILLED
+        line.ask(state(1, BEING_FILLED))
         self.assertEqual(line.ask(sync()), [[-5]])
         self.assertEqual([ask[:2] for ask in line.asks()], [("write", 0), ("flush", 0), ("flush", 1)])
 
